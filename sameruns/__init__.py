@@ -1,0 +1,1 @@
+"""Programs made shorter without a change."""

@@ -1,0 +1,32 @@
+"""The calls: each takes values and answers a list of whole numbers."""
+
+from sameruns.knowing import known_before
+from sameruns.reading import MOST_VARIABLES, WrongLine, read_program
+
+WRONG_LINE = -100
+NO_SUCH_PLACE = -4
+NOT_COME_TO = -3
+
+
+def bt_known(at, text):
+    """How many variables there are, and what's known of 64 before instruction at; or a refusal."""
+    try:
+        program = read_program(text)
+    except WrongLine as wrong:
+        return [WRONG_LINE - wrong.line]
+    if at < 0 or at > len(program.instructions):
+        return [NO_SUCH_PLACE]
+    known = known_before(program)[at]
+    if known is None:
+        return [NOT_COME_TO]
+    return [program.variable_count] + known_told(known)
+
+
+def known_told(known):
+    """1 and its number for each known variable; 0 and 0 for the others, and for those there aren't."""
+    told = []
+    for number in known:
+        told.extend([0, 0] if number is None else [1, number])
+    for missing in range(MOST_VARIABLES - len(known)):
+        told.extend([0, 0])
+    return told
