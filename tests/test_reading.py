@@ -73,7 +73,8 @@ class Lines(Case):
             "if x print a", "if x goto a a", "if read goto a", "if x a goto", "x goto a",
             "end end", "end x", "end = 5", "label", "label b c", "label 5", "label read", "read", "read x",
             "read = x", "goto = 5", "print = 5", "if = x", "label = 5", "5 = x", "-5", "x = X", "END", "Print x",
-            "jump a", "x a", "read a", "x x goto a", "goto x goto a", "print x goto a", "# x", "x = y ! z", "x = y = z", "x = y > z", "x = y <= z", "x = y >= z", "x = y != z", "x = y ** z",
+            "jump a", "x a", "read a", "x x goto a", "goto x goto a", "print x goto a", "# x",
+            "x = y ! z", "x = y = z", "x = y > z", "x = y <= z", "x = y >= z", "x = y != z", "x = y ** z",
             "x = y // z", "x = y && z", "x = y || z", "x = y <<< z", "x = y >>> z", "x = y === z", "x = y plus z",
         ):
             self.refused("label a\n" + line + "\nend", 2)
