@@ -1,11 +1,16 @@
 """The calls: each takes values and answers a list of whole numbers."""
 
+from sameruns.bettering import made_better
 from sameruns.knowing import known_before
 from sameruns.reading import MOST_VARIABLES, WrongLine, read_program
+from sameruns.telling import told
 
 WRONG_LINE = -100
 NO_SUCH_PLACE = -4
 NOT_COME_TO = -3
+NOT_IN_RANGE = -2
+TOO_LONG = -1
+HIGHEST_MOST = 65536
 
 
 def bt_known(at, text):
@@ -19,14 +24,28 @@ def bt_known(at, text):
     known = known_before(program)[at]
     if known is None:
         return [NOT_COME_TO]
-    return [program.variable_count] + known_told(known)
+    return [len(program.names)] + known_told(known)
 
 
 def known_told(known):
     """1 and its number for each known variable; 0 and 0 for the others, and for those there aren't."""
-    told = []
+    told_numbers = []
     for number in known:
-        told.extend([0, 0] if number is None else [1, number])
+        told_numbers.extend([0, 0] if number is None else [1, number])
     for missing in range(MOST_VARIABLES - len(known)):
-        told.extend([0, 0])
-    return told
+        told_numbers.extend([0, 0])
+    return told_numbers
+
+
+def bt_better(most, text):
+    """How many bytes the program made better has, and these bytes; or a refusal."""
+    if most < 0 or most > HIGHEST_MOST:
+        return [NOT_IN_RANGE]
+    try:
+        program = read_program(text)
+    except WrongLine as wrong:
+        return [WRONG_LINE - wrong.line]
+    signs = told(made_better(program))
+    if len(signs) > most:
+        return [TOO_LONG]
+    return [len(signs)] + signs

@@ -2,7 +2,7 @@
 
 
 class Instruction:
-    """One instruction; variables are told by their numbers.
+    """One instruction; variables are told by their numbers. Once a program is read, none is changed.
 
     kind is one of "number", "copy", "operator", "read", "print", "goto", "if", "end".
     used: the variables it uses, as they stand. given: the variable it gives something.
@@ -20,8 +20,19 @@ class Instruction:
 
 
 class Program:
-    """The instructions, and how many variables there are."""
+    """The instructions, and the variables' names by their numbers."""
 
-    def __init__(self, instructions, variable_count):
+    def __init__(self, instructions, names):
         self.instructions = instructions
-        self.variable_count = variable_count
+        self.names = names
+
+
+def with_place(instruction, place):
+    """The same goto or if, but to another place."""
+    return Instruction(instruction.kind, instruction.used, place=place)
+
+
+def with_used(instruction, used):
+    """The same instruction, but it uses other variables."""
+    given = instruction.given
+    return Instruction(instruction.kind, used, given=given, operator=instruction.operator, place=instruction.place)

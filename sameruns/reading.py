@@ -103,4 +103,4 @@ def read_program(text):
     for words in lines_of(text):
         reading.take_line(words)
     reading.find_places()
-    return Program(reading.instructions, len(reading.variables))
+    return Program(reading.instructions, list(reading.variables))

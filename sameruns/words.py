@@ -6,6 +6,7 @@ A word is a tuple of bytes: so it can be any word of a text, and a key of a dict
 from sameruns.reckoning import NUMBERS_BELOW_ZERO
 
 NEWLINE = 10
+SPACE = 32
 BLANKS = (32, 9, 13)
 DIGIT_ZERO = 48
 DIGIT_NINE = 57

@@ -1,6 +1,6 @@
 """What the tests have in common."""
 
-from sameruns.desk import bt_known
+from sameruns.desk import bt_better, bt_known
 
 LOWEST = -2 ** 63
 HIGHEST = 2 ** 63 - 1
@@ -47,3 +47,16 @@ def known(at, source):
     if any(pair != (0, 0) for pair in pairs[len(names):]):
         raise AssertionError("a variable is told that isn't there")
     return {name: number if flag else None for name, (flag, number) in zip(names, pairs)}
+
+
+def lines(*rows):
+    """A text of these rows, a newline behind each."""
+    return "".join(row + "\n" for row in rows)
+
+
+def better(source):
+    """The text of the program made better; it is checked on the way that the answer has its form."""
+    got = bt_better(65536, as_list(source))
+    if got[0] != len(got) - 1:
+        raise AssertionError(f"{got[:9]} for {source[:200]!r}")
+    return bytes(got[1:]).decode("ascii")

@@ -4,12 +4,9 @@ import itertools
 import random
 import unittest
 
-from helping import answer, known, names_of
+from helping import answer, known, lines, names_of
+from running import parted
 from test_reckoning import expected
-
-
-def lines(*rows):
-    return "\n".join(rows)
 
 
 class Places(unittest.TestCase):
@@ -185,19 +182,6 @@ def made_row(chance, names):
         f"print {x}", f"goto {label}", f"if {x} goto {label}", f"if {x} goto {label}", f"{x} = {y} {operator} {z}",
         chance.choice(["end", f"print {x}"]),
     ])
-
-
-def parted(source):
-    """The instructions as lists of words, and the labels' places."""
-    instructions = []
-    places = {}
-    for row in source.split("\n"):
-        words = row.split()
-        if words and words[0] == "label":
-            places[words[1]] = len(instructions)
-        elif words:
-            instructions.append(words)
-    return instructions, places
 
 
 def brought_by(words, place, places, before):

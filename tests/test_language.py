@@ -202,6 +202,33 @@ class Functions(unittest.TestCase):
                         self.assertTrue(isinstance(right, ast.Constant) and right.value in (None, True, False), where)
 
 
+class Walks(unittest.TestCase):
+    def test_walked_on_the_spot(self):
+        walkers = ("zip", "enumerate", "reversed", "range")
+        takers = ("list", "tuple", "dict", "sorted", "sum", "any", "all", "enumerate", "zip", "min", "max")
+        spots = []
+        for where, node in nodes(ast.For, ast.comprehension):
+            spots.append(ast.dump(node.iter))
+        for where, node in nodes(ast.Call):
+            if isinstance(node.func, ast.Name) and node.func.id in takers and node.args:
+                spots.append(ast.dump(node.args[0]))
+        for where, node in nodes(ast.Call):
+            named = isinstance(node.func, ast.Name) and node.func.id in walkers
+            if named or isinstance(node.func, ast.Attribute) and node.func.attr in ("items", "keys", "values"):
+                self.assertIn(ast.dump(node), spots, where)
+
+    def test_sets_are_asked_sorted_or_counted(self):
+        allowed = []
+        for where, node in nodes(ast.Call):
+            if isinstance(node.func, ast.Name) and node.func.id in ("sorted", "len") and not node.keywords:
+                allowed.extend(ast.dump(part) for part in node.args)
+        for where, node in nodes(ast.Compare):
+            allowed.extend(ast.dump(part) for part in [node.left] + node.comparators)
+        for where, node in nodes(ast.Call):
+            if isinstance(node.func, ast.Name) and node.func.id in ("set", "frozenset"):
+                self.assertIn(ast.dump(node), allowed, where)
+
+
 class Names(unittest.TestCase):
     def test_names_that_are_bound(self):
         for path in files():
