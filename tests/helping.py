@@ -1,6 +1,6 @@
 """What the tests have in common."""
 
-from sameruns.desk import bt_better, bt_known
+from sameruns.desk import bt_better, bt_known, bt_run
 
 LOWEST = -2 ** 63
 HIGHEST = 2 ** 63 - 1
@@ -60,3 +60,18 @@ def better(source):
     if got[0] != len(got) - 1:
         raise AssertionError(f"{got[:9]} for {source[:200]!r}")
     return bytes(got[1:]).decode("ascii")
+
+
+def ran(source, inputs=(), made=0, steps=1000000, most=65536):
+    """What is printed, and how many steps are done; the number alone of a refusal.
+
+    It is checked on the way that the answer has its form.
+    """
+    got = bt_run(made, steps, most, as_list(source), list(inputs))
+    if type(got) is not list or any(type(number) is not int for number in got):
+        raise AssertionError(f"{got[:9]} for {source[:200]!r}")
+    if got[0] < 0 and len(got) == 1:
+        return got[0]
+    if got[0] < 0 or len(got) != got[0] + 2 or any(not LOWEST <= number <= HIGHEST for number in got):
+        raise AssertionError(f"{got[:9]} for {source[:200]!r}")
+    return got[1:-1], got[-1]

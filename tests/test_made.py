@@ -4,8 +4,8 @@ import random
 import unittest
 
 import retelling
-from helping import answer, better
-from running import check_same
+from helping import answer, better, ran
+from running import check_same, run
 
 LABELS = ("a", "l0", "l1", "k")
 
@@ -53,6 +53,41 @@ class MadePrograms(unittest.TestCase):
             for count in (0, 1, 6):
                 numbers = [chance.choice([0, 0, 1, -1, 2, chance.randint(-2 ** 63, 2 ** 63 - 1)]) for k in range(count)]
                 check_same(self, source, made, numbers, 150)
+
+    def check_run(self, source, inputs, made, steps, most):
+        """bt_run against a run of the text itself, or of the text made better."""
+        printed, done, ended = run(better(source) if made else source, inputs, steps)
+        expected = (printed, done) if ended else -5
+        if ended and len(printed) > most:
+            expected = -1
+        self.assertEqual(ran(source, inputs, made, steps, most), expected, (source, inputs, made, steps, most))
+        return expected
+
+    def test_run_as_told_once_more(self):
+        chance = random.Random(33)
+        answers = []
+        for turn in range(2000):
+            source = made_program(chance, 30)
+            inputs = [chance.choice([0, 1, -1, 2, chance.randint(-2 ** 63, 2 ** 63 - 1)])
+                      for k in range(chance.choice([0, 1, 3, 9]))]
+            for made in (0, 1):
+                answers.append(self.check_run(source, inputs, made, chance.choice([0, 5, 20, 40, 150]),
+                                              chance.choice([0, 1, 3, 65536])))
+        # Each way to answer is come to often.
+        self.assertGreater(answers.count(-5), 200)
+        self.assertGreater(answers.count(-1), 200)
+        self.assertGreater(len([got for got in answers if type(got) is tuple]), 200)
+
+    def test_bt_run_finds_the_same_made_better_in_no_more_steps(self):
+        chance = random.Random(34)
+        for turn in range(2000):
+            source = made_program(chance, 30)
+            inputs = [chance.choice([0, 1, -1, 2, 7]) for k in range(chance.choice([0, 1, 3, 9]))]
+            plain = ran(source, inputs, 0, 200)
+            if plain != -5:
+                printed, steps = ran(source, inputs, 1, 200)
+                self.assertEqual(printed, plain[0], (source, inputs))
+                self.assertLessEqual(steps, plain[1], (source, inputs))
 
 
 if __name__ == "__main__":
